@@ -1,0 +1,1 @@
+"""Cayleywalk: words in groups, with moves or certificates."""
