@@ -20,6 +20,28 @@ FUNCTIONS = {
     "moves": [
         "moved(presentation, word, move)", "undoing(presentation, word, move)", "shorters(presentation, word)",
     ],
+    "derive": [
+        "walked(presentation, word, moves)", "is_derivation(presentation, start, end, moves)",
+        "undone(presentation, word, moves)", "inverted(presentation, word, moves)", "shifted(moves, by)", "cuts(word)",
+        "free_derivation(presentation, start, end)",
+    ],
+    "images": [
+        "is_permutation(entries)", "compose(one, other)", "inverse_of(permutation)", "cycles_of(permutation)",
+        "order_of(permutation)", "sign_of(permutation)", "check_images(g, images)", "permutation_of(images, word)",
+        "satisfies(presentation, images)", "tells_apart(presentation, images, one, other)", "orbits_of(images)",
+        "group_of(images)",
+    ],
+    "search": [
+        "all_images(presentation, degree)", "first_images(presentation, one, other, *, most)",
+        "count_images(presentation, degree)",
+    ],
+    "lattice": [
+        "diagonal_form(rows, columns)", "is_diagonal_form(rows, columns, left, diagonal, right)", "determinant(rows)",
+    ],
+    "weights": [
+        "sums_of(g, word)", "weight_of(weights, word)", "fits(presentation, weights)",
+        "weights_apart(presentation, one, other)", "combination(presentation, one, other)", "invariants(presentation)",
+    ],
 }
 
 
