@@ -42,6 +42,35 @@ FUNCTIONS = {
         "sums_of(g, word)", "weight_of(weights, word)", "fits(presentation, weights)",
         "weights_apart(presentation, one, other)", "combination(presentation, one, other)", "invariants(presentation)",
     ],
+    "tables": [
+        "check_table(table, generators)", "is_whole(table)", "is_joined(table)", "led(table, start, word)",
+        "standard(table)", "covering(table, other)", "representatives(table)", "circle_words(table)",
+        "fits(presentation, words, table)",
+    ],
+    "cosets": [
+        "coset_table(presentation, words, *, limit=200)", "index_of(presentation, words, *, limit=200)",
+        "is_member(presentation, words, word, *, limit=200)",
+    ],
+    "graphs": [
+        "is_graph(g, graph)", "read_from(g, graph, vertex, word)", "standard(g, graph)", "based(g, graph, vertex)",
+        "is_full(g, graph)", "filled(g, graph)",
+    ],
+    "folding": [
+        "folded(g, words)", "rank_of_graph(g, graph)", "index_of_graph(g, graph)", "basis_of(g, graph)",
+        "meet(g, one, other)", "is_normal(g, graph)",
+    ],
+    "members": [
+        "contains(g, graph, word)", "expression(g, words, word)", "is_expression(g, words, word, pairs)",
+        "told_apart(g, words, word)",
+    ],
+}
+
+CLASSES = {
+    "cosets": {
+        "Enumeration": [
+            "__init__(self, presentation, words)", "round(self)", "table(self)", "cosets_behind_filling(self)",
+        ],
+    },
 }
 
 
@@ -53,6 +82,16 @@ class InterfaceTest(unittest.TestCase):
                 function = getattr(module, line.split("(")[0])
                 self.assertEqual(function.__name__ + str(inspect.signature(function)), line)
                 self.assertEqual(function.__module__, "cayleywalk." + file)
+
+    def test_classes(self):
+        for file, classes in CLASSES.items():
+            module = importlib.import_module("cayleywalk." + file)
+            for name, lines in classes.items():
+                made = getattr(module, name)
+                self.assertEqual(made.__module__, "cayleywalk." + file)
+                for line in lines:
+                    method = vars(made)[line.split("(")[0]]
+                    self.assertEqual(method.__name__ + str(inspect.signature(method)), line)
 
 
 if __name__ == "__main__":

@@ -12,7 +12,10 @@ import unittest
 
 PACKAGE = os.path.join(os.path.dirname(os.path.dirname(os.path.abspath(__file__))), "cayleywalk")
 
-LIBRARY = {"math": {"gcd", "lcm", "isqrt", "comb", "perm", "factorial"}}
+LIBRARY = {
+    "math": {"gcd", "lcm", "isqrt", "comb", "perm", "factorial"},
+    "heapq": {"heappush", "heappop", "heapify", "heapreplace", "heappushpop"},
+}
 
 STATEMENTS = (
     ast.FunctionDef, ast.ClassDef, ast.ImportFrom, ast.Return, ast.Assign, ast.AugAssign, ast.If, ast.While, ast.For,
@@ -26,7 +29,7 @@ EXPRESSIONS = (
 
 OPERATORS = (
     ast.Add, ast.Sub, ast.Mult, ast.FloorDiv, ast.Mod, ast.USub, ast.Not, ast.And, ast.Or, ast.Eq, ast.NotEq, ast.Lt,
-    ast.LtE, ast.Gt, ast.GtE, ast.In, ast.NotIn, ast.Is, ast.IsNot, ast.Load, ast.Store,
+    ast.LtE, ast.Gt, ast.GtE, ast.In, ast.NotIn, ast.Is, ast.IsNot, ast.Load, ast.Store, ast.BitXor,
 )
 
 OTHERS = (ast.arguments, ast.arg, ast.keyword, ast.comprehension, ast.alias, ast.ExceptHandler)
@@ -38,7 +41,7 @@ BUILTINS = set(
 
 METHODS = set(
     "append clear copy count endswith extend find get index insert items join keys pop remove replace reverse "
-    "startswith split strip update values".split()
+    "setdefault startswith split strip update values".split()
 )
 
 BARRED = set("register mro elements open input law version_info with_traceback add_note".split())
@@ -71,6 +74,16 @@ def names_defined(tree):
         if isinstance(node, ast.Assign):
             found += [target.id for target in node.targets]
     return found
+
+
+def methods_of(tree):
+    classes = [node for node in tree.body if isinstance(node, ast.ClassDef)]
+    return [node for found in classes for node in found.body if isinstance(node, ast.FunctionDef)]
+
+
+def attributes_assigned(tree):
+    nodes = [node for node in ast.walk(tree) if isinstance(node, ast.Attribute) and isinstance(node.ctx, ast.Store)]
+    return {node.attr for node in nodes if isinstance(node.value, ast.Name) and node.value.id == "self"}
 
 
 def names_bound(function):
@@ -206,9 +219,11 @@ class NamesTest(unittest.TestCase):
         for name, tree in all_trees().items():
             taken = {alias.name for node in imports_of(tree) for alias in node.names}
             taken |= set(names_defined(tree)) | every | BARRED
+            methods = methods_of(tree)
             for function in functions_of(tree):
-                if not function.name.startswith("__"):
-                    self.assertNotIn(function.name, every | BARRED, name)
+                self.assertNotIn(function.name, BARRED | BUILTINS, name)
+                if function not in methods:
+                    self.assertNotIn(function.name, every, name)
                 for bound in names_bound(function):
                     self.assertNotIn(bound, taken, (name, function.name))
                     self.assertRegex(bound, r"\A(_|[a-z][a-z0-9_]*)\Z", name)
@@ -220,11 +235,26 @@ class NamesTest(unittest.TestCase):
                     self.assertIsInstance(node.ctx, ast.Store, (name, node.lineno))
 
     def test_methods(self):
-        own = {"at", "row"}
-        for name, tree in all_trees().items():
+        trees = all_trees()
+        own = set()
+        for name, tree in trees.items():
+            attributes = attributes_assigned(tree)
+            methods = {node.name for node in methods_of(tree)}
+            self.assertEqual(attributes & methods, set(), name)
+            self.assertEqual(attributes & (METHODS | BARRED), set(), name)
+            own |= attributes | methods
+        for name, tree in trees.items():
             for node in ast.walk(tree):
                 if isinstance(node, ast.Attribute):
                     self.assertIn(node.attr, METHODS | own, (name, node.lineno))
+                    self.assertRegex(node.attr, r"\A_?[a-z][a-z0-9_]*\Z", (name, node.lineno))
+
+    def test_only_these_methods_have_two_underscores(self):
+        for name, tree in all_trees().items():
+            for method in functions_of(tree):
+                if method.name.startswith("__"):
+                    self.assertEqual(method.name, "__init__", name)
+                    self.assertIn(method, methods_of(tree), name)
 
     def test_generators_are_read_at_once(self):
         trees = all_trees()
