@@ -63,6 +63,27 @@ FUNCTIONS = {
         "contains(g, graph, word)", "expression(g, words, word)", "is_expression(g, words, word, pairs)",
         "told_apart(g, words, word)",
     ],
+    "rules": [
+        "check_system(gens, system)", "free_rules(gens)", "overlaps(gens, system)", "results(gens, system, overlap)",
+    ],
+    "rewrite": [
+        "normal_form(gens, system, word)", "trace(gens, system, word)", "is_irreducible(gens, system, word)",
+        "applied(gens, system, word, place, index)", "first_conflict(gens, system)", "is_complete(gens, system)",
+        "tidied(gens, system)",
+    ],
+    "backed": [
+        "moved_in(presentation, chain, word, move)", "walked_in(presentation, chain, word, moves)",
+        "is_walk(presentation, chain, start, end, moves)", "first_fault(presentation, chain)",
+        "unfolded(presentation, chain, word, moves)",
+    ],
+    "solve": [
+        "system_of(chain, kept)", "is_solution(presentation, chain, kept)", "solved(presentation)",
+        "meeting(presentation, chain, kept, one, other)",
+    ],
+    "automata": [
+        "is_machine(machine)", "accepts(machine, word)", "least(machine)", "avoiding(g, words)",
+        "normal_machine(g, system)",
+    ],
 }
 
 CLASSES = {
