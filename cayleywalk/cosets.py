@@ -48,7 +48,7 @@ class Enumeration:
             for x, there in enumerate(row):
                 if there == NOWHERE:
                     new = merging.grow()
-                    merging.join(coset, x, new)
+                    merging.connect(coset, x, new)
                     self._waiting.extend([(new, k) for k in range(self._many_relators)])
 
     def _fold(self, merging):

@@ -35,7 +35,7 @@ def _add_path(merging, text):
         there = 0
         if at + 1 < len(text):
             there = merging.grow()
-        merging.join(here, rank_of(letter), there)
+        merging.connect(here, rank_of(letter), there)
         here = there
 
 

@@ -51,7 +51,7 @@ def trimmed(graph, base):
     hanging = [vertex for vertex in range(len(rows)) if vertex != base and _hangs(rows[vertex])]
     while hanging:
         vertex = hanging.pop()
-        row = rows[vertex]
+        row = list(rows[vertex])
         rows[vertex] = [NOWHERE] * len(row)
         # A vertex that hangs has at most one entry, and not to itself.
         for x, there in enumerate(row):

@@ -54,6 +54,6 @@ def told_apart(g, words, word):
         there = end_of(merging.rows, here, letter)
         if there == NOWHERE:
             there = merging.grow()
-            merging.join(here, rank_of(letter), there)
+            merging.connect(here, rank_of(letter), there)
         here = there
     return filled_rows(merging.rows)

@@ -24,7 +24,7 @@ class Merging:
         self.heads.append(len(self.heads))
         return len(self.heads) - 1
 
-    def join(self, here, x, there):
+    def connect(self, here, x, there):
         """Make an entry and the one for the inverse letter, and make one what they force."""
         self._enter(here, x, there)
         self._enter(there, opposite(x), here)

@@ -1,6 +1,6 @@
 """Solutions of a presentation: sound chains with a complete system of kept rules."""
 
-from cayleywalk.backed import MOST_ENTRIES, first_fault
+from cayleywalk.backed import first_fault
 from cayleywalk.completion import Completion, needed_only
 from cayleywalk.errors import BadNumber, TooLarge
 from cayleywalk.letters import check_word
@@ -44,9 +44,10 @@ def solved(presentation):
         completion = Completion(presentation)
         completion.complete()
         chain, kept = needed_only(completion.made, completion.active)
-        if len(chain) > MOST_ENTRIES or not is_solution(presentation, chain, kept):
-            return None
-        return (chain, kept)
+        # This also finds a chain, or a system, that has too many rules.
+        if is_solution(presentation, chain, kept):
+            return (chain, kept)
+        return None
     except TooLarge:
         return None
 

@@ -39,10 +39,10 @@ def _generators_of(table):
     """Return the number of generators of a table, or raise NotTable if it is not one."""
     if len(table) == 0:
         raise NotTable("a table has at least one row")
-    width = len(table[0])
-    if width < 2 or width > 2 * MOST_GENERATORS or width % 2 == 1 or not is_table(table, width // 2):
+    g = len(table[0]) // 2
+    if g < 1 or g > MOST_GENERATORS or not is_table(table, g):
         raise NotTable("not a table for 1, 2 or 3 generators")
-    return width // 2
+    return g
 
 
 def holes(table):

@@ -229,6 +229,18 @@ class CosetTableTest(unittest.TestCase):
         self.assertIsNone(index_of((1, ("a",)), [], limit=2))
         self.assertIsNone(index_of((1, ("a",)), [], limit=1))
 
+    def test_limit_that_the_functions_have(self):
+        # The path with the subgroup word needs 201 cosets before it is folded.
+        self.assertEqual(index_of((1, ()), ["a" * 99]), 99)
+        self.assertIsNone(index_of((1, ()), ["a" * 100]))
+        self.assertIsNone(coset_table((1, ()), ["a" * 100]))
+        self.assertIsNone(is_member((1, ()), ["a" * 100], "a"))
+        self.assertIs(is_member((1, ()), ["a" * 100], "a", limit=201), False)
+        self.assertEqual(index_of((1, ()), ["a" * 100], limit=201), 100)
+        self.assertIsNone(index_of((1, ()), ["a" * 100], limit=200))
+        self.assertEqual(len(coset_table((1, ()), ["a" * 199], limit=400)), 199)
+        self.assertIsNone(coset_table((1, ()), ["a" * 200], limit=400))
+
     def test_order_of_errors(self):
         for function in (coset_table, index_of):
             with self.assertRaises(NotPresentation):

@@ -68,7 +68,7 @@ class ReductionTest(unittest.TestCase):
         word = "b" * 40 + "a" * 50
         self.assertEqual(normal_form(2, SORTING, word), "a" * 50 + "b" * 40)
         self.assertEqual(len(trace(2, SORTING, word)), 2000)
-        for word in ["b" * 41 + "a" * 50, "b" + word + "ab" + "a", "b" * 100 + "a" * 100]:
+        for word in ["b" * 69 + "a" * 29, "b" * 41 + "a" * 50, "b" + word + "ab" + "a", "b" * 100 + "a" * 100]:
             self.assertRaises(TooLarge, normal_form, 2, SORTING, word)
             self.assertRaises(TooLarge, trace, 2, SORTING, word)
             self.assertIs(is_irreducible(2, SORTING, word), False)
