@@ -1,7 +1,7 @@
 """Tables of cosets: where words lead, standard numbers, maps between tables, circle words."""
 
 from cayleywalk.errors import BadNumber, NotTable, NotWord
-from cayleywalk.letters import LETTERS, MOST_GENERATORS, is_word, letters_of, rank_of
+from cayleywalk.letters import LETTERS, MOST_GENERATORS, is_word, rank_of
 from cayleywalk.presentations import LONGEST_WORD, check_words
 from cayleywalk.words import cancelled, flipped
 
@@ -14,7 +14,9 @@ def opposite(x):
 
 
 def is_table(table, g):
-    """Return True if the rows are a table for g generators, with any number of cosets from 1 on."""
+    """Return True if the rows are a table for g generators, from 1 to 3, with any number of cosets from 1 on."""
+    if g < 1 or g > MOST_GENERATORS:
+        return False
     if len(table) == 0 or not all([len(row) == 2 * g for row in table]):
         return False
     return all([_leads_back(table, p, x) for p in range(len(table)) for x in range(2 * g)])
@@ -30,7 +32,6 @@ def _leads_back(table, p, x):
 
 def check_table(table, generators):
     """Raise NotTable unless the rows are a table for this number of generators."""
-    letters_of(generators)
     if not is_table(table, generators):
         raise NotTable("not a table for this number of generators")
 
@@ -40,7 +41,7 @@ def _generators_of(table):
     if len(table) == 0:
         raise NotTable("a table has at least one row")
     g = len(table[0]) // 2
-    if g < 1 or g > MOST_GENERATORS or not is_table(table, g):
+    if not is_table(table, g):
         raise NotTable("not a table for 1, 2 or 3 generators")
     return g
 

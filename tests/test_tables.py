@@ -52,9 +52,9 @@ class CheckTableTest(unittest.TestCase):
                 self.assertRaises(NotTable, check_table, rows, other)
 
     def test_number_of_generators(self):
-        for g in (0, 4, -1, 10 ** 30):
-            for rows in (THREE, FOUR, (), ((),), ((0,) * 8,)):
-                self.assertRaises(BadNumber, check_table, rows, g)
+        for g in (0, 4, -1, 10 ** 30, -10 ** 30):
+            for rows in (THREE, FOUR, POINT, (), ((),), ((0,) * 8,)):
+                self.assertRaises(NotTable, check_table, rows, g)
 
     def test_each_changed_entry(self):
         for g, rows in [(1, THREE), (2, FOUR), (1, ((1, -1), (2, 0), (-1, 1)))]:
