@@ -49,7 +49,7 @@ def least(machine):
     """Return the least machine with the same letters that accepts the same words."""
     check_machine(machine)
     letters, accepting, table = machine
-    useful = _useful_states(accepting, table)
+    useful = useful_states(accepting, table)
     if len(useful) == 0:
         return (letters, (), ())
     # A useful start comes first in the order, so it is the state 0 again.
@@ -58,12 +58,12 @@ def least(machine):
     return _merged(letters, marks, rows, Refining(marks, rows).blocks)
 
 
-def _useful_states(accepting, table):
+def useful_states(accepting, table):
     """Return the useful states, in the order in which they are found from the start."""
     if len(table) == 0:
         return []
     order = order_found(table, 0)
-    before = _states_before(table)
+    before = states_before(table)
     useful = {state: True for state in order if accepting[state]}
     waiting = list(useful)
     while waiting:
@@ -75,7 +75,7 @@ def _useful_states(accepting, table):
     return [state for state in order if state in useful]
 
 
-def _states_before(table):
+def states_before(table):
     """Return for each state the list of the states from which letters lead to it."""
     before = [[] for _ in table]
     for state, row in enumerate(table):

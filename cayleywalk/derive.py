@@ -9,19 +9,19 @@ from cayleywalk.presentations import check_words
 def walked(presentation, word, moves):
     """Return the word to which a list of moves leads."""
     check_words(presentation, [word])
-    return _trail(presentation, word, moves)[-1]
+    return trail(presentation, word, moves)[-1]
 
 
 def is_derivation(presentation, start, end, moves):
     """Return True if the moves are allowed and lead from the first word to the second one."""
     check_words(presentation, [start, end])
     try:
-        return _trail(presentation, start, moves)[-1] == end
+        return trail(presentation, start, moves)[-1] == end
     except BadMove:
         return False
 
 
-def _trail(presentation, word, moves):
+def trail(presentation, word, moves):
     """Return the list of the words before, between and behind the moves."""
     words = [word]
     for at, move in enumerate(moves):
@@ -39,16 +39,16 @@ def undone(presentation, word, moves):
 
 
 def _undone_moves(presentation, word, moves):
-    trail = _trail(presentation, word, moves)
-    found = [opposite_move(trail[at], move) for at, move in enumerate(moves)]
+    words = trail(presentation, word, moves)
+    found = [opposite_move(words[at], move) for at, move in enumerate(moves)]
     return found[::-1]
 
 
 def inverted(presentation, word, moves):
     """Return the derivation from the inverse of the word that has the inverse words."""
     check_words(presentation, [word])
-    trail = _trail(presentation, word, moves)
-    return [_inverted_move(presentation, len(trail[at]), move) for at, move in enumerate(moves)]
+    words = trail(presentation, word, moves)
+    return [_inverted_move(presentation, len(words[at]), move) for at, move in enumerate(moves)]
 
 
 def _inverted_move(presentation, size, move):
@@ -89,6 +89,6 @@ def free_derivation(presentation, start, end):
     check_words(presentation, [start, end])
     there = cuts(start)
     back = cuts(end)
-    if _trail(presentation, start, there)[-1] != _trail(presentation, end, back)[-1]:
+    if trail(presentation, start, there)[-1] != trail(presentation, end, back)[-1]:
         return None
     return there + _undone_moves(presentation, end, back)

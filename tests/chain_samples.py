@@ -26,6 +26,17 @@ GRID_CHAIN = (
     ("BA", "AB", (("use", 0, 1, -1), ("use", 1, 6, -1), ("use", 2, 0, 1))),
 )
 
+# In this group all letters are equal to the empty word, so moves lead from each word to each other one.
+TRIVIAL = (3, ("a", "b", "c"))
+
+
+def trivial_rule(left, right):
+    """Return a rule that is backed by moves of the trivial group."""
+    moves = [("take", 0, "aAbBcC".index(letter) // 2, 1 if letter.islower() else -1) for letter in left]
+    for at, letter in enumerate(right):
+        moves.append(("add", at, "aAbBcC".index(letter) // 2, 1 if letter.islower() else -1))
+    return (left, right, tuple(moves))
+
 
 def use_moves(presentation, chain, word):
     """Return all allowed moves `use` in a word."""

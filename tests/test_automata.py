@@ -7,45 +7,10 @@ from cayleywalk.automata import accepts, avoiding, is_machine, least, normal_mac
 from cayleywalk.errors import BadNumber, NotMachine, NotRule, NotWord, TooLarge
 from cayleywalk.letters import letters_of
 from cayleywalk.solve import solved, system_of
+from machine_samples import EMPTY, FREE, NO_MACHINES, plain_accepts, some_machines
 from row_samples import plain_key, plain_words
 from rule_samples import COMPLETE, CONFLICTING, NO_RULES, some_systems
 from samples import STRANGERS, some_words, words_up_to
-
-FREE = ("aA", (True, True, True), ((1, 2), (1, -1), (-1, 2)))
-EMPTY = ("aA", (), ())
-
-NO_MACHINES = [
-    ("", (), ()), ("a", (), ()), ("A", (), ()), ("Aa", (), ()), ("aAb", (), ()), ("aAbBc", (), ()), ("aAbBcCdD", (), ()),
-    ("bB", (), ()), ("aAcC", (), ()), ("a A", (), ()), ("", (True,), ((),)), ("aAaA", (), ()),
-    ("aA", (True,), ()), ("aA", (), ((0, 0),)), ("aA", (True, False), ((0, 0),)), ("aA", (True,), ((0, 0), (0, 0))),
-    ("aA", (True,), ((0,),)), ("aA", (True,), ((0, 0, 0),)), ("aA", (True,), ((),)), ("aAbB", (True,), ((0, 0),)),
-    ("aA", (True, True), ((0, 1), (0,))), ("aA", (True,), ((0, 1),)), ("aA", (True,), ((-2, 0),)),
-    ("aA", (True, True), ((0, 1), (0, 2))), ("aA", (True,), ((10 ** 30, 0),)), ("aA", (True,), ((0, -10 ** 30),)),
-    ("aA", (True,) * 2001, ((-1, -1),) * 2001),
-]
-
-
-def some_machines(seed, many, largest):
-    chance = random.Random(seed)
-    found = []
-    for at in range(many):
-        letters = letters_of(1 + at % 3)
-        size = chance.randint(0, largest)
-        choices = [-1] * chance.randint(1, 1 + size) + list(range(size))
-        accepting = tuple(chance.random() < chance.choice([0.2, 0.6]) for _ in range(size))
-        found.append((letters, accepting, tuple(tuple(chance.choice(choices) for _ in letters) for _ in range(size))))
-    return found
-
-
-def plain_accepts(machine, word):
-    letters, accepting, table = machine
-    here = 0 if table else -1
-    for letter in word:
-        if here == -1 or letter not in list(letters):
-            return False
-        here = table[here][letters.index(letter)]
-    return here != -1 and accepting[here]
-
 
 def plain_behaviour(machine, state, words):
     letters, accepting, table = machine

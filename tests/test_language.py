@@ -19,30 +19,33 @@ LIBRARY = {
 
 STATEMENTS = (
     ast.FunctionDef, ast.ClassDef, ast.ImportFrom, ast.Return, ast.Assign, ast.AugAssign, ast.If, ast.While, ast.For,
-    ast.Raise, ast.Try, ast.Expr, ast.Pass, ast.Break, ast.Continue,
+    ast.Raise, ast.Try, ast.Expr, ast.Pass, ast.Break, ast.Continue, ast.With, ast.Delete,
 )
 
 EXPRESSIONS = (
     ast.Constant, ast.Name, ast.Attribute, ast.Subscript, ast.Slice, ast.Call, ast.BinOp, ast.UnaryOp, ast.BoolOp,
     ast.Compare, ast.IfExp, ast.List, ast.Tuple, ast.Dict, ast.ListComp, ast.DictComp, ast.Yield, ast.YieldFrom,
+    ast.Starred,
 )
 
 OPERATORS = (
     ast.Add, ast.Sub, ast.Mult, ast.FloorDiv, ast.Mod, ast.USub, ast.Not, ast.And, ast.Or, ast.Eq, ast.NotEq, ast.Lt,
-    ast.LtE, ast.Gt, ast.GtE, ast.In, ast.NotIn, ast.Is, ast.IsNot, ast.Load, ast.Store, ast.BitXor,
+    ast.LtE, ast.Gt, ast.GtE, ast.In, ast.NotIn, ast.Is, ast.IsNot, ast.Load, ast.Store, ast.Del, ast.BitXor,
 )
 
-OTHERS = (ast.arguments, ast.arg, ast.keyword, ast.comprehension, ast.alias, ast.ExceptHandler)
+OTHERS = (ast.arguments, ast.arg, ast.keyword, ast.comprehension, ast.alias, ast.ExceptHandler, ast.withitem)
 
 BUILTINS = set(
     "len range enumerate zip min max sum abs sorted reversed int str bool list tuple dict isinstance any all divmod "
-    "ValueError".split()
+    "iter ord ValueError".split()
 )
 
 METHODS = set(
-    "append clear copy count endswith extend find get index insert items join keys pop remove replace reverse "
-    "setdefault startswith split strip update values".split()
+    "append clear copy count endswith extend find get index insert items join keys partition pop remove replace reverse "
+    "setdefault startswith split strip swapcase update values".split()
 )
+
+DOUBLE = {"__init__", "__len__", "__iter__", "__enter__", "__exit__"}
 
 BARRED = set("register mro elements open input law version_info with_traceback add_note".split())
 
@@ -94,6 +97,17 @@ def names_bound(function):
     return found
 
 
+def is_plain_value(node, above):
+    """Return True for what may stand at module level: literals and the functions defined above."""
+    if isinstance(node, ast.Dict):
+        return all(is_plain_value(part, above) for part in node.keys + node.values)
+    if isinstance(node, (ast.Tuple, ast.List)):
+        return all(is_plain_value(part, above) for part in node.elts)
+    if isinstance(node, ast.UnaryOp):
+        return isinstance(node.op, ast.USub) and isinstance(node.operand, ast.Constant)
+    return isinstance(node, ast.Constant) or (isinstance(node, ast.Name) and node.id in above)
+
+
 def is_docstring(node):
     return isinstance(node, ast.Expr) and isinstance(node.value, ast.Constant) and isinstance(node.value.value, str)
 
@@ -131,12 +145,15 @@ class SyntaxTest(unittest.TestCase):
         allowed = (ast.FunctionDef, ast.ClassDef, ast.ImportFrom)
         for name, tree in all_trees().items():
             self.assertTrue(is_docstring(tree.body[0]), name)
+            above = set()
             for node in tree.body[1:]:
                 if isinstance(node, ast.Assign):
                     self.assertEqual(len(node.targets), 1, name)
-                    ast.literal_eval(node.value)
+                    self.assertTrue(is_plain_value(node.value, above), (name, node.lineno))
                 else:
                     self.assertIsInstance(node, allowed, (name, node.lineno))
+                if isinstance(node, ast.FunctionDef):
+                    above.add(node.name)
             names = names_defined(tree) + [alias.name for node in imports_of(tree) for alias in node.names]
             self.assertEqual(len(names), len(set(names)), name)
 
@@ -145,7 +162,9 @@ class SyntaxTest(unittest.TestCase):
             for function in functions_of(tree):
                 arguments = function.args
                 self.assertEqual(function.decorator_list, [], name)
-                self.assertEqual((arguments.vararg, arguments.kwarg, arguments.posonlyargs), (None, None, []), name)
+                self.assertEqual((arguments.kwarg, arguments.posonlyargs), (None, []), name)
+                if arguments.vararg is not None:
+                    self.assertIn(function, tree.body, name)
                 self.assertIsNone(function.returns, name)
 
     def test_constants(self):
@@ -253,8 +272,24 @@ class NamesTest(unittest.TestCase):
         for name, tree in all_trees().items():
             for method in functions_of(tree):
                 if method.name.startswith("__"):
-                    self.assertEqual(method.name, "__init__", name)
+                    self.assertIn(method.name, DOUBLE, name)
                     self.assertIn(method, methods_of(tree), name)
+                if method.name in ("__len__", "__iter__"):
+                    text = ast.unparse(method.body[-1])
+                    self.assertRegex(text, r"\Areturn (len|iter)\(self\.\w+\)\Z", name)
+                    self.assertEqual(len(method.body), 1, name)
+
+    def test_what_an_exit_does(self):
+        kinds = (ast.If, ast.Assign, ast.BoolOp, ast.Or, ast.And, ast.Compare, ast.Is, ast.IsNot, ast.Name,
+                 ast.Attribute, ast.Constant, ast.Load, ast.Store)
+        for name, tree in all_trees().items():
+            for method in methods_of(tree):
+                if method.name == "__exit__":
+                    self.assertEqual([arg.arg for arg in method.args.args], ["self", "kind", "value", "trace"])
+                    for node in [node for row in method.body for node in ast.walk(row)]:
+                        self.assertIsInstance(node, kinds, name)
+                        if isinstance(node, ast.Name):
+                            self.assertIn(node.id, ("self", "kind"), (name, node.lineno))
 
     def test_generators_are_read_at_once(self):
         trees = all_trees()

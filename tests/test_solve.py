@@ -1,6 +1,5 @@
 """Promises [144] to [148]: kept rules, solutions, meetings of words, the search for solutions."""
 
-import itertools
 import random
 import unittest
 
@@ -10,42 +9,10 @@ from cayleywalk.errors import BadNumber, NotPresentation, NotWord, TooLarge
 from cayleywalk.letters import letters_of
 from cayleywalk.rewrite import normal_form, trace
 from cayleywalk.solve import is_solution, meeting, solved, system_of
-from chain_samples import GRID, GRID_CHAIN, TWO, TWO_CHAIN
+from chain_samples import GRID, GRID_CHAIN, TRIVIAL, TWO, TWO_CHAIN, trivial_rule
+from family_samples import families, turned
 from rule_samples import plain_applied, plain_form, plain_overlaps
 from samples import NO_PRESENTATIONS, PRESENTATIONS, STRANGERS, plain_inverse, some_words, words_up_to
-
-COMMUTING = {2: ("abAB",), 3: ("abAB", "acAC", "bcBC")}
-
-# In this group all letters are equal to the empty word, so moves lead from each word to each other one.
-TRIVIAL = (3, ("a", "b", "c"))
-
-
-def families():
-    """Return all presentations of the families of [148], with the relators in their order."""
-    found = [(1, ())] + [(1, ("a" * n,)) for n in range(1, 9)]
-    for gens, most in ((2, 6), (3, 3)):
-        for sizes in itertools.product(range(most + 1), repeat=gens):
-            powers = tuple(letter * n for letter, n in zip("abc", sizes) if n > 0)
-            found += [(gens, powers), (gens, powers + COMMUTING[gens])]
-    for n in (0, 2, 4, 6):
-        for m in range(7):
-            found.append((2, tuple(text for text in ("a" * n, "b" * m) if text) + ("abAb",)))
-    found += [(2, ("a" * n, "bb", "abab")) for n in range(1, 7)]
-    return found + [(2, ("aa", "bb", "ab" * n)) for n in range(1, 5)]
-
-
-def turned(presentation):
-    """Return the presentations with the rotations of the relators."""
-    gens, relators = presentation
-    return [(gens, relators[k:] + relators[:k]) for k in range(max(1, len(relators)))]
-
-
-def trivial_rule(left, right):
-    """Return a rule that is backed by moves of the trivial group."""
-    moves = [("take", 0, "aAbBcC".index(letter) // 2, 1 if letter.islower() else -1) for letter in left]
-    for at, letter in enumerate(right):
-        moves.append(("add", at, "aAbBcC".index(letter) // 2, 1 if letter.islower() else -1))
-    return (left, right, tuple(moves))
 
 
 def order_of_elements(gens, system):
