@@ -84,12 +84,70 @@ FUNCTIONS = {
         "is_machine(machine)", "accepts(machine, word)", "least(machine)", "avoiding(g, words)",
         "normal_machine(g, system)",
     ],
+    "growth": [
+        "counts(machine, n)", "total(machine)", "circle(machine)", "word_at(machine, index)",
+        "index_of(machine, word)", "first_words(machine, count)",
+    ],
+    # The interface calls the second argument of two of these `elements`, which LANGUAGE.md (L17) forbids as a name.
+    "subgroups": [
+        "centre(group)", "class_of(group, x)", "classes(group)", "generated(group, members)",
+        "is_subgroup(group, members)", "is_normal(group, subgroup)", "right_cosets(group, subgroup)",
+        "quotient(group, subgroup)", "extended(group, other, images)",
+    ],
+    "conjugates": [
+        "conjugated(word, by)", "class_word(word)", "free_conjugate(one, other)", "free_conjugator(one, other)",
+        "cycle_type(images, word)", "find_conjugator(g, system, one, other, length)", "class_of(g, system, word)",
+    ],
+    "maps": [
+        "check_map(source, target, words)", "image(source, target, words, word)", "is_right(source, target, backed)",
+        "carried(source, target, backed, word, moves)", "joined(source, middle, target, one, other)",
+    ],
+    "changes": [
+        "with_relator(presentation, word, moves)", "without_relator(presentation, k, moves)",
+        "with_generator(presentation, word)", "without_generator(presentation, k)",
+    ],
+    "decide": [
+        "decide(presentation, one, other)", "is_answer(presentation, one, other, answer)", "shows(answer)",
+    ],
+    "certificates": [
+        "is_walk(presentation, chain, start, end, moves)", "is_sound(presentation, chain)",
+        "images_differ(presentation, one, other, images)", "weights_differ(presentation, one, other, weights)",
+        "are_different(presentation, words, images)", "is_solution(presentation, chain, kept)",
+        "solution_differs(presentation, one, other, chain, kept)", "shown(presentation, one, other, answer)",
+    ],
+    "lines": ["words_of(line)", "is_name(word)", "number_in(word)", "text_of(word)", "word_in(text)"],
+    "journal": ["attempt(journal, lines, *, keep=False)", "resume(text)"],
 }
 
 CLASSES = {
     "cosets": {
         "Enumeration": [
             "__init__(self, presentation, words)", "round(self)", "table(self)", "cosets_behind_filling(self)",
+        ],
+    },
+    "elements": {
+        "FiniteGroup": [
+            "__init__(self, presentation)", "__len__(self)", "element(self, word)", "word(self, x)",
+            "product(self, x, y)", "inverse(self, x)", "power(self, x, exponent)", "order(self, x)",
+            "commute(self, x, y)",
+        ],
+    },
+    "changes": {
+        "Change": ["returning(self, letter)", "returning_behind(self, letter)", "pulled(self, start, end, moves)"],
+    },
+    "decide": {
+        "Decider": [
+            "__init__(self, presentation)", "answer(self, one, other)", "solution(self)", "__len__(self)",
+            "__iter__(self)",
+        ],
+    },
+    "desk": {
+        "Desk": ["__init__(self)", "answer(self, line)", "answers(self, lines)", "names(self)", "thing(self, name)"],
+    },
+    "journal": {
+        "Journal": [
+            "__init__(self)", "answer(self, line)", "record(self)", "lines(self)", "keep(self)", "__enter__(self)",
+            "__exit__(self, kind, value, trace)",
         ],
     },
 }
