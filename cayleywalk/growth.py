@@ -83,7 +83,9 @@ def circle(machine):
 
 
 def _letter_to_endless(row, finite):
-    return [x for x, there in enumerate(row) if there != NOWHERE and there not in finite][0]
+    """Return the index of the first letter that leads to a state that accepts infinitely many words."""
+    ways = [x for x, there in enumerate(row) if there != NOWHERE and there not in finite]
+    return ways[0]
 
 
 def _way_out(letters, marks, rows, start):
