@@ -8,7 +8,7 @@ from cayleywalk.changes import Change, with_generator, with_relator, without_gen
 from cayleywalk.derive import is_derivation
 from cayleywalk.errors import BadMove, BadNumber, NotPresentation, NotWord, TooLarge
 from cayleywalk.letters import letters_of
-from cayleywalk.maps import is_right
+from cayleywalk.maps import carried, is_right
 from cayleywalk.weights import invariants
 from map_samples import CUBE, CUBE_OF_TWO, FREE, GRID, LINE, SIX, TWO, plain_image, plain_way
 from samples import NO_PRESENTATIONS, PRESENTATIONS, STRANGERS, random_walk, some_words
@@ -267,6 +267,22 @@ class PulledTest(ChangeCase):
                 back = [opposite(move, way) for move, way in zip(moves, ways)][::-1]
                 self.assert_pulled(change, word, word, moves + back)
                 self.assert_pulled(change, word, word, [])
+
+    def test_carried_there_and_pulled_back(self):
+        chance = random.Random(213)
+        made = 0
+        for change in some_changes():
+            for word in [""] + some_words(change.before[0], chance.randrange(10 ** 6), 4, 4):
+                moves, end = random_walk(change.before, word, chance.randrange(10 ** 6), 4)
+                if 20 * len(end) > 180:
+                    continue
+                try:
+                    carried_there = carried(change.before, change.behind, change.there, word, moves)
+                except TooLarge:
+                    continue
+                self.assert_pulled(change, word, end, carried_there)
+                made += word != end
+        self.assertGreater(made, 60)
 
     def test_between_different_words(self):
         change = without_generator(CUBE_OF_TWO, 1)
