@@ -2,7 +2,7 @@
 
 from cayleywalk.cosets import HIGHEST_LIMIT, coset_table
 from cayleywalk.errors import BadNumber, NoAnswer
-from cayleywalk.presentations import check_words
+from cayleywalk.letters import check_word
 from cayleywalk.tables import end_of, representatives
 from cayleywalk.words import flipped
 
@@ -34,8 +34,8 @@ class FiniteGroup:
             raise BadNumber("there is no such element")
 
     def element(self, word):
-        """Return the element of a word."""
-        check_words(self.presentation, [word])
+        """Return the element of a word of at most 60 letters."""
+        check_word(self.presentation[0], word)
         return end_of(self._table, 0, word)
 
     def word(self, x):

@@ -56,7 +56,7 @@ class WordsTest(unittest.TestCase):
             looked = Looked(group, images)
             self.assertEqual(len(looked.number), len(group))
             g = presentation[0]
-            for word in words_up_to(g, 2) + some_words(g, 151, 20, 60) + some_words(g, 152, 3, 200):
+            for word in words_up_to(g, 2) + some_words(g, 151, 20, 60):
                 self.assertEqual(group.element(word), looked.number[plain_permutation(images, word)])
 
     def test_cuts_and_relators_change_nothing(self):
@@ -70,9 +70,30 @@ class WordsTest(unittest.TestCase):
         for presentation in [SIX, (1, ("aaa",)), (3, ("abC", "bcA", "caB"))]:
             group = FiniteGroup(presentation)
             others = [letter for letter in "aAbBcC" if letter not in letters_of(presentation[0])]
-            for word in STRANGERS + others + ["a" + letter for letter in others] + ["a" * 201]:
+            for word in STRANGERS + others + ["a" + letter for letter in others]:
+                self.assertRaises(NotWord, group.element, word)
+
+    def test_number_of_letters(self):
+        for presentation, images in GROUPS:
+            group = FiniteGroup(presentation)
+            looked = Looked(group, images)
+            for letter in letters_of(presentation[0]):
+                for word in [letter * 60, letter * 59, ("aA" * 30)[1:] + letter]:
+                    self.assertEqual(group.element(word), looked.element_of(images, word))
+                for size in (61, 62, 120, 200, 201, 1000):
+                    self.assertRaises(NotWord, group.element, letter * size)
+            for word in ["aA" * 30 + "a", "aA" * 100, "Aa" * 31]:
                 self.assertRaises(NotWord, group.element, word)
             self.assertEqual(group.element("aA" * 30), 0)
+
+    def test_words_of_two_elements_are_taken(self):
+        # In no known group are the words of two elements longer together than a word that is taken.
+        for presentation, _ in GROUPS + [(SIXTY, None)]:
+            group = FiniteGroup(presentation)
+            words = [group.word(x) for x in range(len(group))]
+            longest = max(range(len(group)), key=lambda x: len(words[x]))
+            for x in range(len(group)):
+                self.assertEqual(group.product(longest, x), group.element(words[longest] + words[x]))
 
 
 class ProductsTest(unittest.TestCase):
